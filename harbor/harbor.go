@@ -1,0 +1,94 @@
+// Package harbor loads signed images into a machine of pages: see DOC.md.
+package harbor
+
+// Errno is what a call answers: OK or the reason for a refusal.
+type Errno int
+
+const (
+	OK        Errno = 0
+	ErrLong   Errno = 1  // above a bound
+	ErrArg    Errno = 2  // a number or text that may not be
+	ErrImage  Errno = 3  // no image
+	ErrSign   Errno = 4  // not signed
+	ErrSpent  Errno = 5  // signed with a leaf that is spent
+	ErrMany   Errno = 6  // too many images
+	ErrFrames Errno = 7  // too many pages
+	ErrRoom   Errno = 8  // no room where it could stand
+	ErrNone   Errno = 9  // no such image or page
+	ErrPolicy Errno = 10 // a page that stays as it is
+	ErrFault  Errno = 11 // what may not be done with a page
+)
+
+const (
+	maxData     = 1000 // bytes that are hashed
+	maxImage    = 300  // bytes of an image
+	maxSegments = 4    // of an image
+	maxMoves    = 4    // of an image
+	maxSpan     = 32   // pages of an image
+	maxPages    = 8    // pages of a segment
+	pageSize    = 32   // bytes of a page
+)
+
+// Hash is the SHA-256 of the bytes (P3).
+func Hash(data string) (string, Errno) {
+	if len(data) > maxData {
+		return "", ErrLong
+	}
+	s := sumOf(data)
+	return string(s[:]), OK
+}
+
+// Root is what a seed's signatures are verified by (P4).
+func Root(seed string) (string, Errno) { return "", OK }
+
+// Sign signs an image with one of a seed's leaves (P5).
+func Sign(seed string, leaf int, image string) (string, Errno) { return "", OK }
+
+// Verify tells whether an image is signed (P6).
+func Verify(root string, image string, manifest string) bool { return false }
+
+// Vet tells whether bytes are an image (P7, P8).
+func Vet(image string) (e Errno, at int) {
+	if len(image) > maxImage {
+		return ErrLong, 0
+	}
+	defer func() {
+		// Whatever ended the look, what was not looked over to its end is
+		// never passed as an image.
+		if given := recover(); given != nil {
+			e, at = ErrImage, placeOf(given)
+		}
+	}()
+	vetImage(image)
+	return OK, 0
+}
+
+// Machine is pages, and images in them. Make it by New.
+type Machine struct{}
+
+// New makes a machine (P9).
+func New(root string) (*Machine, Errno) { return nil, OK }
+
+// Load loads an image (P10 to P12).
+func (m *Machine) Load(image string, manifest string, draw int) (int, Errno, int) { return 0, OK, 0 }
+
+// Start tells where an image begins, and where its stack ends (P13).
+func (m *Machine) Start(id int) (int, int, Errno) { return 0, 0, OK }
+
+// Unload takes an image away (P13).
+func (m *Machine) Unload(id int) Errno { return OK }
+
+// Protect changes what may be done with a page (P14).
+func (m *Machine) Protect(page int, perm int) Errno { return OK }
+
+// Perm tells what may be done with a page (P14).
+func (m *Machine) Perm(page int) int { return 0 }
+
+// Read reads a byte (P15).
+func (m *Machine) Read(at int) (int, Errno) { return 0, OK }
+
+// Fetch fetches a byte to be done (P15).
+func (m *Machine) Fetch(at int) (int, Errno) { return 0, OK }
+
+// Store stores a byte (P15).
+func (m *Machine) Store(at int, b int) Errno { return OK }
