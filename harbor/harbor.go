@@ -21,12 +21,15 @@ const (
 
 const (
 	maxData     = 1000 // bytes that are hashed
+	maxSeed     = 16   // bytes of a seed
 	maxImage    = 300  // bytes of an image
 	maxSegments = 4    // of an image
 	maxMoves    = 4    // of an image
 	maxSpan     = 32   // pages of an image
 	maxPages    = 8    // pages of a segment
 	pageSize    = 32   // bytes of a page
+	leaves      = 4    // of a seed
+	signed      = 12   // bits of an image's sum
 )
 
 // Hash is the SHA-256 of the bytes (P3).
@@ -39,13 +42,35 @@ func Hash(data string) (string, Errno) {
 }
 
 // Root is what a seed's signatures are verified by (P4).
-func Root(seed string) (string, Errno) { return "", OK }
+func Root(seed string) (string, Errno) {
+	if len(seed) > maxSeed {
+		return "", ErrLong
+	}
+	root := rootOf(seed)
+	return string(root[:]), OK
+}
 
 // Sign signs an image with one of a seed's leaves (P5).
-func Sign(seed string, leaf int, image string) (string, Errno) { return "", OK }
+func Sign(seed string, leaf int, image string) (string, Errno) {
+	if len(seed) > maxSeed || len(image) > maxImage {
+		return "", ErrLong
+	}
+	if leaf < 0 || leaf >= leaves {
+		return "", ErrArg
+	}
+	return manifestOf(seed, leaf, image), OK
+}
 
 // Verify tells whether an image is signed (P6).
-func Verify(root string, image string, manifest string) bool { return false }
+func Verify(root string, image string, manifest string) bool {
+	if len(root) != sumSize || len(image) > maxImage || len(manifest) != manifestSize {
+		return false
+	}
+	if manifest[leafAt] >= leaves {
+		return false
+	}
+	return sumAt(root, 0) == rootFrom(image, manifest)
+}
 
 // Vet tells whether bytes are an image (P7, P8).
 func Vet(image string) (e Errno, at int) {

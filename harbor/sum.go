@@ -3,12 +3,13 @@ package harbor
 import "math/bits"
 
 const (
+	sumSize    = 32 // bytes of a sum
 	blockSize  = 64 // bytes that SHA-256 mixes in at a time
 	lengthSize = 8  // bytes at the end that tell how long the text is
 )
 
 // sum is an array, so that two of them are compared by ==.
-type sum [32]byte
+type sum [sumSize]byte
 
 // state is what SHA-256 carries from block to block.
 type state [8]uint32
@@ -82,6 +83,22 @@ func sumOf(data string) sum {
 		s = mix(s, padded[at:at+blockSize])
 	}
 	return spell(s)
+}
+
+// sumOfSums is the sum of sums that stand one behind the other.
+func sumOfSums(sums ...sum) sum {
+	var data []byte
+	for _, s := range sums {
+		data = append(data, s[:]...)
+	}
+	return sumOf(string(data))
+}
+
+// sumAt is the sum that stands in a text from a place on.
+func sumAt(text string, at int) sum {
+	var s sum
+	copy(s[:], text[at:at+sumSize])
+	return s
 }
 
 // pad fills the last block up: a bit 1, zeros, and the length in bits.
