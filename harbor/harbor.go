@@ -27,7 +27,10 @@ const (
 	maxMoves    = 4    // of an image
 	maxSpan     = 32   // pages of an image
 	maxPages    = 8    // pages of a segment
+	maxImages   = 3    // of a machine
+	maxFrames   = 24   // pages of a machine that are in use
 	pageSize    = 32   // bytes of a page
+	pageCount   = 64   // pages of a machine
 	leaves      = 4    // of a seed
 	signed      = 12   // bits of an image's sum
 )
@@ -87,33 +90,3 @@ func Vet(image string) (e Errno, at int) {
 	vetImage(image)
 	return OK, 0
 }
-
-// Machine is pages, and images in them. Make it by New.
-type Machine struct{}
-
-// New makes a machine (P9).
-func New(root string) (*Machine, Errno) { return nil, OK }
-
-// Load loads an image (P10 to P12).
-func (m *Machine) Load(image string, manifest string, draw int) (int, Errno, int) { return 0, OK, 0 }
-
-// Start tells where an image begins, and where its stack ends (P13).
-func (m *Machine) Start(id int) (int, int, Errno) { return 0, 0, OK }
-
-// Unload takes an image away (P13).
-func (m *Machine) Unload(id int) Errno { return OK }
-
-// Protect changes what may be done with a page (P14).
-func (m *Machine) Protect(page int, perm int) Errno { return OK }
-
-// Perm tells what may be done with a page (P14).
-func (m *Machine) Perm(page int) int { return 0 }
-
-// Read reads a byte (P15).
-func (m *Machine) Read(at int) (int, Errno) { return 0, OK }
-
-// Fetch fetches a byte to be done (P15).
-func (m *Machine) Fetch(at int) (int, Errno) { return 0, OK }
-
-// Store stores a byte (P15).
-func (m *Machine) Store(at int, b int) Errno { return OK }

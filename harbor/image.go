@@ -21,12 +21,59 @@ const (
 
 // segment is what an image tells of one of its segments.
 type segment struct {
-	page, pages, kind int
-	begin, size       int // its bytes in the image
+	page, pages, kind, zero int
+	begin, size             int // its bytes in the image
 }
 
 // end is the page behind the segment.
 func (s segment) end() int { return s.page + s.pages }
+
+// move is a number of an image that grows with the place at which it stands.
+type move struct{ place, number int }
+
+// layout is what an image tells of itself, right or wrong.
+type layout struct {
+	segments []segment
+	moves    []move
+	entry    int
+}
+
+// span is the page behind the last segment.
+func (l layout) span() int { return l.segments[len(l.segments)-1].end() }
+
+// layoutOf reads an image that has all the bytes ahead of its body.
+func layoutOf(image string) layout {
+	l := layout{entry: number(image, entryAt)}
+	for at := headSize; at < movesOf(image); at += segmentSize {
+		l.segments = append(l.segments, segmentAt(image, at))
+	}
+	for at := movesOf(image); at < bodyOf(image); at += moveSize {
+		l.moves = append(l.moves, move{number(image, at), number(image, at+2)})
+	}
+	return l
+}
+
+func segmentAt(image string, at int) segment {
+	return segment{
+		page:  int(image[at]),
+		pages: int(image[at+1]),
+		kind:  int(image[at+2]),
+		zero:  int(image[at+3]),
+		begin: number(image, at+4),
+		size:  number(image, at+6),
+	}
+}
+
+// movesOf is where an image's moves begin.
+func movesOf(image string) int { return headSize + int(image[segmentsAt])*segmentSize }
+
+// bodyOf is the end of an image's moves.
+func bodyOf(image string) int { return movesOf(image) + int(image[movesAt])*moveSize }
+
+// number is two bytes of the image, the lower one first.
+func number(image string, at int) int {
+	return int(image[at]) | int(image[at+1])<<8
+}
 
 // noImage is what panic carries from where an image is given up to the face.
 type noImage struct{ at int }
@@ -50,12 +97,11 @@ func placeOf(given any) int {
 // is wrong is the one that is told.
 func vetImage(image string) {
 	vetHead(image)
-	firstMove := headSize + int(image[segmentsAt])*segmentSize
-	body := firstMove + int(image[movesAt])*moveSize
-	demand(body <= len(image), len(image))
-	segments := vetSegments(image, firstMove, body)
-	vetMoves(image, firstMove, body, segments)
-	demand(isCode(segments, number(image, entryAt)), entryAt)
+	demand(bodyOf(image) <= len(image), len(image))
+	l := layoutOf(image)
+	vetSegments(l.segments, bodyOf(image), len(image))
+	vetMoves(l, movesOf(image))
+	demand(isCode(l.segments, l.entry), entryAt)
 }
 
 func vetHead(image string) {
@@ -68,40 +114,26 @@ func vetHead(image string) {
 	demand(moves <= maxMoves, movesAt)
 }
 
-func vetSegments(image string, firstMove, body int) []segment {
-	var segments []segment
+func vetSegments(segments []segment, body, length int) {
 	lastEnd := 0
-	for at := headSize; at < firstMove; at += segmentSize {
-		s := vetSegment(image, at, lastEnd, body)
-		segments = append(segments, s)
+	for i, s := range segments {
+		at := headSize + i*segmentSize
+		demand(s.page >= lastEnd && s.page < maxSpan, at)
+		demand(s.pages >= 1 && s.pages <= maxPages && s.end() <= maxSpan, at+1)
+		demand(s.kind >= kindCode && s.kind <= kindLoaded, at+2)
+		demand(s.zero == 0, at+3)
+		demand(s.begin >= body && s.begin <= length, at+4)
+		demand(s.size <= s.pages*pageSize && s.begin+s.size <= length, at+6)
 		lastEnd = s.end()
 	}
-	return segments
 }
 
-func vetSegment(image string, at, lastEnd, body int) segment {
-	s := segment{
-		page:  int(image[at]),
-		pages: int(image[at+1]),
-		kind:  int(image[at+2]),
-		begin: number(image, at+4),
-		size:  number(image, at+6),
-	}
-	demand(s.page >= lastEnd && s.page < maxSpan, at)
-	demand(s.pages >= 1 && s.pages <= maxPages && s.end() <= maxSpan, at+1)
-	demand(s.kind >= kindCode && s.kind <= kindLoaded, at+2)
-	demand(image[at+3] == 0, at+3)
-	demand(s.begin >= body && s.begin <= len(image), at+4)
-	demand(s.size <= s.pages*pageSize && s.begin+s.size <= len(image), at+6)
-	return s
-}
-
-func vetMoves(image string, firstMove, body int, segments []segment) {
+func vetMoves(l layout, first int) {
 	lastEnd := 0
-	for at := firstMove; at < body; at += moveSize {
-		place := number(image, at)
-		demand(place >= lastEnd && isMovable(segments, place), at)
-		lastEnd = place + movedBytes
+	for i, v := range l.moves {
+		at := first + i*moveSize
+		demand(v.place >= lastEnd && isMovable(l.segments, v.place), at)
+		lastEnd = v.place + movedBytes
 	}
 }
 
@@ -127,9 +159,4 @@ func isCode(segments []segment, place int) bool {
 		}
 	}
 	return false
-}
-
-// number is two bytes of the image, the lower one first.
-func number(image string, at int) int {
-	return int(image[at]) | int(image[at+1])<<8
 }
